@@ -262,7 +262,31 @@ func (m model) parse() (api.Program, api.Errno, int) {
 	return p, api.OK, 0
 }
 
-// likeModel holds Parse of a text against the model; and, D4, what Print makes of the program, read again, against the program.
+// printable tells, by the document's words, of a program that Parse told whether it has a text: its words and its cases are such as may be.
+func printable(p api.Program) bool {
+	last := len(p.Funcs) - 1
+	if last < 0 || p.Funcs[0].Begin != 0 || p.Funcs[last].End != len(p.Code) {
+		return false
+	}
+	for n, f := range p.Funcs {
+		if f.End-f.Begin < 1 || n > 0 && f.Begin != p.Funcs[n-1].End {
+			return false
+		}
+		for _, w := range p.Code[f.Begin:f.End] {
+			i, _ := word.Decode(w)
+			least, most := 0, map[string]int{"L": f.End, "f": len(p.Funcs), "t": len(p.Tables)}[letter(i.Op)]
+			if letter(i.Op) == "L" {
+				least = f.Begin
+			}
+			if letter(i.Op) != "" && (i.Imm < least || i.Imm >= most) {
+				return false
+			}
+		}
+	}
+	return true
+}
+
+// likeModel holds Parse of a text against the model; and, D3, D4, what Print makes of the program: the model's text, read as the program again, or what is refused.
 func likeModel(t *testing.T, s string) api.Errno {
 	t.Helper()
 	want, refusal, line := newModel(s).parse()
@@ -270,8 +294,12 @@ func likeModel(t *testing.T, s string) api.Errno {
 	if !same(p, want) || e != refusal || n != line {
 		t.Fatalf("Parse(%s): %+v, %d, %d, not %+v, %d, %d", brief(s), p, e, n, want, refusal, line)
 	}
-	if printed, e := listing.Print(p); e == api.OK {
-		reads(t, printed, p)
+	if !printable(p) {
+		unprinted(t, p, api.ErrArg)
+	} else if printed := modelPrint(t, p); len(printed) > api.MaxText {
+		unprinted(t, p, api.ErrLong)
+	} else {
+		prints(t, p, printed)
 	}
 	return e
 }

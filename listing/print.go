@@ -28,8 +28,11 @@ func check(p api.Program) api.Errno {
 	return unread
 }
 
-// parted tells whether the functions part the code. Where there is no code none are needed, so that what an empty text tells can be printed.
+// parted tells whether the functions part the code. Where there is no function they do not, even if there is no code: there is no first one that begins at the word 0.
 func parted(p api.Program) bool {
+	if len(p.Funcs) == 0 {
+		return false
+	}
 	at := 0
 	for _, f := range p.Funcs {
 		if f.Begin != at || f.End <= at {

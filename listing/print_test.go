@@ -97,12 +97,29 @@ func TestPrint(t *testing.T) {
 		text("func f0", "call f0", "spawn r1 f0", "set r1 1", "trap 2", "high r0 3"))
 }
 
-// TestPrintOfNothing: D3, D4: a program without functions and words is parted; with words, or with a function, it is not.
-func TestPrintOfNothing(t *testing.T) {
-	prints(t, api.Program{}, "")
-	prints(t, api.Program{Tables: []api.CaseTable{{Default: true}}}, "table t0 default\n")
-	unprinted(t, api.Program{Funcs: []api.Func{{}}}, api.ErrArg)
-	unprinted(t, api.Program{Code: code(t, api.Instr{Op: api.OpExit})}, api.ErrArg)
+// TestPrintWithoutFunctions: D3: where there is no function, the functions do not part the code, whatever else there is; nor do they, if the only one has no word.
+func TestPrintWithoutFunctions(t *testing.T) {
+	exit := code(t, api.Instr{Op: api.OpExit})
+	long := make([]api.CaseTable, api.MaxText)
+	room := []api.Func{{Begin: 0, End: 1}, {}}
+	for _, words := range [][]uint32{nil, {}, exit, exit[:0], {0}, {0x05120013}} {
+		for _, tables := range [][]api.CaseTable{nil, {}, {{}}, {{Default: true}}, {{Cases: []api.Case{{Send: true, Chan: 1, Val: 2}}}, {}}, {{Cases: []api.Case{{Chan: 16}}}}, long} {
+			unprinted(t, api.Program{Code: words, Tables: tables}, api.ErrArg)
+			// What lies behind the list's end is no function.
+			unprinted(t, api.Program{Code: words, Funcs: room[:0], Tables: tables}, api.ErrArg)
+		}
+	}
+	for _, tables := range [][]api.CaseTable{nil, {{Default: true}}} {
+		unprinted(t, api.Program{Funcs: []api.Func{{}}, Tables: tables}, api.ErrArg)
+		prints(t, api.Program{Code: exit, Funcs: room[:1], Tables: tables}, strings.Repeat("table t0 default\n", len(tables))+"func f0\nexit\n")
+	}
+}
+
+// TestParsedButNotPrinted: D1, D3: texts that tell a program without functions, or a function without words, which Print refuses.
+func TestParsedButNotPrinted(t *testing.T) {
+	for _, s := range []string{"", "\n", "; func f", "table t\n", "table t default\nsend r1 r2\n", "func f\n", "func f\nexit\nfunc g\n", "func f\nfunc g\nexit\n", "func f\ntable t\n"} {
+		unprinted(t, parsed(t, s), api.ErrArg)
+	}
 }
 
 // TestCasesUnusedFields: D3, D4: what a case does not use may be anything, and is 0 when it is read again.
@@ -247,14 +264,14 @@ func TestPrintBounds(t *testing.T) {
 
 // TestPrintBoundsOfTables: D3: tables count as functions do, to the last byte.
 func TestPrintBoundsOfTables(t *testing.T) {
-	const short, long = "send r1 r2\n", "send r10 r2\n"
-	rest := api.MaxText - len("table t0\n")
+	const head, short, long, tail = "table t0\n", "send r1 r2\n", "send r10 r2\n", "func f0\nexit\n"
+	rest := api.MaxText - len(head) - len(tail)
 	longer := rest % len(short)
 	count := rest / len(short)
-	var p api.Program
+	p := one(t, api.Instr{Op: api.OpExit})
 	p.Tables = make([]api.CaseTable, 1)
 	var want strings.Builder
-	want.WriteString("table t0\n")
+	want.WriteString(head)
 	for n := range count {
 		c, line := api.Case{Send: true, Chan: 1, Val: 2}, short
 		if n < longer {
@@ -263,6 +280,7 @@ func TestPrintBoundsOfTables(t *testing.T) {
 		p.Tables[0].Cases = append(p.Tables[0].Cases, c)
 		want.WriteString(line)
 	}
+	want.WriteString(tail)
 	if want.Len() != api.MaxText {
 		t.Fatal(want.Len())
 	}
